@@ -31,6 +31,22 @@ INTERFACE = {
     },
     "walks": {"Walk": {"__init__": ["self", "needs", "steps", "made", "end"]},
               "walked": ["knot", "term", "names", "gots"]},
+    "tellings": {
+        "Telling": {
+            "__init__": ["self", "kind", "what", "steps", "*", "known=()"], "is_sure": ["self"], "__eq__": None,
+            "__len__": None, "__str__": None, "__repr__": None,
+        },
+    },
+    "plain": {"plain": ["parts", "term", "*", "most=MOST"]},
+    "houses": {
+        "House": {
+            "__init__": ["self", "parts=()"], "write": ["self", "name", "term", "*", "new=False"],
+            "strike": ["self", "name"], "back": ["self"], "past": ["self"], "parts": ["self"],
+            "term_of": ["self", "name"], "tell": ["self", "term", "*", "most=MOST"], "done": ["self"],
+            "twin": ["self"], "__eq__": None, "__len__": None, "__str__": None, "__repr__": None,
+        },
+    },
+    "lacks": {"lack": ["house", "term", "*", "most=MOST"], "wanted": ["house", "terms", "*", "most=MOST"]},
 }
 
 
@@ -39,7 +55,14 @@ def trees():
 
 
 def arguments(function):
-    return [argument.arg for argument in function.args.args]
+    """The arguments as they are written: names, a * ahead of those that go by name alone, defaults behind a =."""
+    taken = function.args
+    defaults = [None] * (len(taken.args) - len(taken.defaults)) + taken.defaults
+    rows = list(zip(taken.args, defaults))
+    by_name = list(zip(taken.kwonlyargs, taken.kw_defaults))
+    told = [[name.arg + ("=" + ast.unparse(default) if default else "") for name, default in part]
+            for part in (rows, by_name)]
+    return told[0] + (["*"] + told[1] if told[1] else [])
 
 
 class LanguageTest(unittest.TestCase):

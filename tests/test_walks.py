@@ -4,10 +4,10 @@ import copy
 import random
 import unittest
 
+from helper import BOUND, OtherWalk, chance_term
 from unwritparts.terms import Term
 from unwritparts.walks import Walk, walked
 
-BOUND = 10 ** 12
 NUMBER = ("number", 5)
 PAIR = ("pair", "Q.1", "Q.2")
 DEF = ("def", "x", "x", ())
@@ -22,87 +22,6 @@ def walk(text, gots=(), names=(), knot="P"):
 
 def fields(told):
     return (told.needs, told.steps, told.made, told.end)
-
-
-class Ended(Exception):
-    pass
-
-
-class OtherWalk:
-    """The walk as the document tells it, by calls within calls, over what Term tells alone."""
-
-    def __init__(self, knot, term, names, gots):
-        self.knot, self.gots = knot, gots
-        self.needs, self.steps, self.made = [], 0, []
-        try:
-            self.end = self.read(term, dict(names))
-        except Ended as ended:
-            self.end = ended.args[0]
-
-    def make(self, term, names):
-        knot = self.knot + "." + str(len(self.made) + 1)
-        self.made.append((knot, str(term), tuple((name, names[name]) for name in term.free_names())))
-        return knot
-
-    def need(self, knot):
-        self.needs.append(knot)
-        if len(self.needs) > len(self.gots):
-            raise Ended(None)
-        got = self.gots[len(self.needs) - 1]
-        if got[0] in ("fault", "ring", "waits"):
-            raise Ended(got)
-        return got
-
-    def must(self, word, term, names):
-        head = self.read(term, names)
-        if head[0] != word:
-            raise Ended(("fault", word, self.knot))
-        return head
-
-    def reckon(self, term, names):
-        left, right = [self.must("number", inner, names)[1] for inner in term.inner()]
-        number = {
-            "sum": left + right, "less": left - right, "times": left * right, "below": int(left < right),
-        }[term.form()]
-        if not -BOUND <= number <= BOUND:
-            raise Ended(("fault", "great", self.knot))
-        return ("number", number)
-
-    def read(self, term, names):
-        self.steps += 1
-        form, inner = term.form(), term.inner()
-        if form == "number":
-            return ("number", int(str(term)))
-        if form in ("name", "part"):
-            return self.need(names[str(term)] if form == "name" else str(term))
-        if form == "if":
-            return self.read(inner[1] if self.must("number", inner[0], names)[1] else inner[2], names)
-        if form == "pair":
-            return ("pair", self.make(inner[0], names), self.make(inner[1], names))
-        if form in ("first", "second"):
-            return self.need(self.must("pair", inner[0], names)[1 if form == "first" else 2])
-        if form == "let":
-            return self.read(inner[1], {**names, term.bound(): self.make(inner[0], names)})
-        if form == "def":
-            stand = tuple((name, names[name]) for name in term.free_names())
-            return ("def", term.bound(), str(inner[0]), stand)
-        if form == "call":
-            _, small, text, stand = self.must("def", inner[0], names)
-            return self.read(Term(text), {**dict(stand), small: self.make(inner[1], names)})
-        return self.reckon(term, names)
-
-
-def chance_term(chance, deep):
-    """A term's text, anything at all with x, y and parts in it."""
-    form = chance.choice(
-        ["sum", "less", "times", "below", "if", "pair", "first", "second", "let", "def", "call", "0", "7", "x", "y",
-         "A", "999999999999"] if deep else ["0", "-3", "x", "y", "A", "B"]
-    )
-    many = {"if": 3, "first": 1, "second": 1, "def": 1}.get(form, 2)
-    if not form.islower() or len(form) == 1:
-        return form
-    bound = [chance.choice("xy")] if form in ("let", "def") else []
-    return "(" + " ".join([form] + bound + [chance_term(chance, deep - 1) for _ in range(many)]) + ")"
 
 
 def read_all(parts, text):

@@ -1,5 +1,6 @@
 """Terms, and the names of parts (promises 4 to 6)."""
 
+from unwritparts.errors import Loose
 from unwritparts.trees import GREAT, MOST_GREAT, all_trees, is_run, tree_of
 
 
@@ -51,3 +52,10 @@ class Term:
 def is_part_name(thing):
     """Whether a thing, any thing, is a part's name."""
     return isinstance(thing, str) and is_run(thing, GREAT, MOST_GREAT)
+
+
+def refuse_loose(term):
+    """Refuse a term that has free names."""
+    names = term.free_names()
+    if names:
+        raise Loose(tuple(names))

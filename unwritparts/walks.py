@@ -18,6 +18,9 @@ MUST = {
 }
 NO_HEADS = ("fault", "ring", "waits")
 
+# The place of the one that waits innermost, where none does.
+NONE_WAITS = -1
+
 
 class Walk:
     """What was seen of a walk: the knots needed, how many steps, the knots made, and what it comes to."""
@@ -30,50 +33,87 @@ class Walk:
 
 
 class Walking:
-    """A walk on its way: it goes until it ends or needs a knot, and goes on when it takes what that came to.
+    """A walk on its way: between calls it has a term ahead, or lacks what a needed knot comes to, or is at its end.
 
-    Terms may wait within one another thousands deep, so those that wait stand in a list and not in calls.
+    Terms may wait within one another thousands deep, so those that wait stand in a list and not in calls. That list
+    only grows, each of its rows telling which one waits behind it: so a mark at each need is all that it takes to go
+    back to this need.
     """
 
-    def __init__(self, knot, tree, names):
+    def __init__(self, knot, tree, names, bodies):
         self.knot = knot
+        self.sense = (tree.text, names)
         self.needs = []
+        self.gots = []
         self.steps = 0
         self.made = []
         self.end = None
-        self._ahead = (tree, dict(names))
+        self.ahead = (tree, dict(names))
         self._head = None
         self._waiting = []
-        self._bodies = {}
+        self._innermost = NONE_WAITS
+        self._marks = []
+        self._tree = tree
+        self._bodies = bodies
 
-    def go(self):
-        """Go on as far as what it was told reaches."""
-        while self.end is None:
-            if self._ahead is not None:
-                self._begin()
-            elif self._head is not None:
-                self._look()
-            else:
-                return
+    def step(self):
+        """Begin the term ahead, one step, and go on as far as that leads without another one."""
+        self._begin()
+        self._look_on()
 
     def take(self, got):
-        """Take what the knot comes to that was needed last."""
+        """Take what the knot comes to that was needed last, and go on as far as that leads without a step."""
+        self.gots.append(got)
         if got[0] in NO_HEADS:
             self.end = got
         else:
             self._head = got
+            self._look_on()
+
+    def steps_ahead(self, at):
+        """How many steps stand ahead of this one of its needs; behind the last of them, how many it has done."""
+        if at < len(self._marks):
+            return self._marks[at][0]
+        return self.steps
+
+    def go_back(self, at):
+        """Stand where this one of its needs was needed: what was done behind it is forgotten."""
+        steps, made, waiting, innermost = self._marks[at]
+        self.needs = self.needs[:at + 1]
+        self.gots = self.gots[:at]
+        self.steps = steps
+        self.made = self.made[:made]
+        self.end = None
+        self.ahead = None
+        self._waiting = self._waiting[:waiting]
+        self._innermost = innermost
+        self._marks = self._marks[:at + 1]
+
+    def twin(self):
+        """A walk of its own that stands as this one."""
+        other = Walking(self.knot, self._tree, self.sense[1], self._bodies)
+        other.needs = list(self.needs)
+        other.gots = list(self.gots)
+        other.steps = self.steps
+        other.made = list(self.made)
+        other.end = self.end
+        other.ahead = self.ahead
+        other._waiting = list(self._waiting)
+        other._innermost = self._innermost
+        other._marks = list(self._marks)
+        return other
 
     def _begin(self):
         """Begin the term ahead: one step."""
-        tree, names = self._ahead
-        self._ahead = None
+        tree, names = self.ahead
+        self.ahead = None
         self.steps += 1
         if tree.kind == "number":
             self._head = ("number", int(tree.text))
         elif tree.kind == "name":
-            self.needs.append(names[tree.text])
+            self._need(names[tree.text])
         elif tree.kind == "part":
-            self.needs.append(tree.text)
+            self._need(tree.text)
         elif tree.kind == "pair":
             left = self._make(tree.within[0], names)
             self._head = ("pair", left, self._make(tree.within[1], names))
@@ -81,39 +121,54 @@ class Walking:
             self._head = ("def", tree.small, tree.within[0].text, names_for(tree, names))
         elif tree.kind == "let":
             knot = self._make(tree.within[0], names)
-            self._ahead = (tree.within[1], {**names, tree.small: knot})
+            self.ahead = (tree.within[1], {**names, tree.small: knot})
         else:
-            self._waiting.append((tree, names, None))
-            self._ahead = (tree.within[0], names)
+            self._wait(tree, names, None, tree.within[0])
+
+    def _look_on(self):
+        """Look at the head that was come to, and at the next one, as long as no step stands between."""
+        while self._head is not None:
+            self._look()
 
     def _look(self):
         """Look at the head that the term just read came to, and go on with the one that waits for it."""
         head = self._head
         self._head = None
-        if not self._waiting:
+        if self._innermost == NONE_WAITS:
             self.end = head
             return
-        tree, names, left = self._waiting.pop()
+        tree, names, left, behind = self._waiting[self._innermost]
+        self._innermost = behind
         if head[0] != MUST[tree.kind]:
             self.end = ("fault", MUST[tree.kind], self.knot)
         elif tree.kind == "first":
-            self.needs.append(head[1])
+            self._need(head[1])
         elif tree.kind == "second":
-            self.needs.append(head[2])
+            self._need(head[2])
         elif tree.kind == "call":
             self._call(tree.within[1], names, head)
         elif tree.kind == "if":
-            self._ahead = (tree.within[2] if head[1] == 0 else tree.within[1], names)
+            self.ahead = (tree.within[2] if head[1] == 0 else tree.within[1], names)
         elif left is None:
-            self._waiting.append((tree, names, head[1]))
-            self._ahead = (tree.within[1], names)
+            self._wait(tree, names, head[1], tree.within[1])
         else:
             self._reckon(tree.kind, left, head[1])
+
+    def _wait(self, tree, names, left, inner):
+        """Let a tree wait for what an inner one comes to, with the number that its first one came to, if it did."""
+        self._waiting.append((tree, names, left, self._innermost))
+        self._innermost = len(self._waiting) - 1
+        self.ahead = (inner, names)
+
+    def _need(self, knot):
+        """Need a knot, and mark how all stands here."""
+        self.needs.append(knot)
+        self._marks.append((self.steps, len(self.made), len(self._waiting), self._innermost))
 
     def _make(self, tree, names):
         """Make a knot of a term and what its free names stand for here; its name."""
         knot = f"{self.knot}.{len(self.made) + 1}"
-        self.made.append((knot, tree.text, names_for(tree, names)))
+        self.made.append((knot, tree, names_for(tree, names)))
         return knot
 
     def _call(self, tree, names, head):
@@ -122,7 +177,7 @@ class Walking:
         knot = self._make(tree, names)
         if text not in self._bodies:
             self._bodies[text] = tree_of(text)
-        self._ahead = (self._bodies[text], {**dict(stand), small: knot})
+        self.ahead = (self._bodies[text], {**dict(stand), small: knot})
 
     def _reckon(self, kind, left, right):
         """Come to the number of two numbers, or to the fault "great"."""
@@ -149,13 +204,20 @@ def reckoned(kind, left, right):
     return 1 if left < right else 0
 
 
+def walk_on(walking):
+    """Do the steps of a walk up to its end, or to a knot that it needs."""
+    while walking.ahead is not None:
+        walking.step()
+
+
 def walked(knot, term, names, gots):
     """The Walk of a knot with this sense, told in gots what the knots that it needs come to."""
-    walking = Walking(knot, term.tree(), names)
-    walking.go()
+    walking = Walking(knot, term.tree(), names, {})
+    walk_on(walking)
     for got in gots:
         if walking.end is not None:
             break
         walking.take(got)
-        walking.go()
-    return Walk(walking.needs, walking.steps, walking.made, walking.end)
+        walk_on(walking)
+    made = [(name, tree.text, stand) for name, tree, stand in walking.made]
+    return Walk(walking.needs, walking.steps, made, walking.end)
