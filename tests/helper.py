@@ -224,6 +224,114 @@ class OtherHouse:
         return reading.row
 
 
+class NoRows(Exception):
+    pass
+
+
+class OtherLooker:
+    """The looker of promise 20: parts a dict of texts, told a text; it is slow and takes small papers alone."""
+
+    def __init__(self, parts, text, thing):
+        self.senses = {name: (row, ()) for name, row in parts.items()}
+        self.senses["?"] = (text, ())
+        try:
+            kind, what, rows = self.shaped(thing, tuple, 3)
+            self.rows = {}
+            for row in self.shaped(rows, list):
+                knot, gots, end = self.shaped(row, tuple, 3)
+                self.must(self.is_text(knot) and knot not in self.rows)
+                gots = [self.shaped(got, tuple, 2) for got in self.shaped(gots, tuple)]
+                self.must(all(self.is_text(needed) for needed, _ in gots))
+                self.rows[knot] = (gots, self.shaped(end, tuple))
+            self.walk_all()
+            self.order()
+            for knot in self.rows:
+                if self.rows[knot][1][0] == "ring":
+                    self.lead(knot)
+            self.left = 5000
+            self.must((type(kind), kind) == (str, self.kind()))
+            self.must(repr(what) == repr(self.what))
+            self.holds = True
+        except NoRows:
+            self.holds = False
+
+    def must(self, truth):
+        if not truth:
+            raise NoRows()
+
+    def is_text(self, thing):
+        return type(thing) is str
+
+    def shaped(self, thing, kind, many=None):
+        self.must(type(thing) is kind and (many is None or len(thing) == many))
+        return thing
+
+    def walk_all(self):
+        for knot in sorted(self.rows, key=lambda knot: knot.count(".")):
+            gots, end = self.rows[knot]
+            self.must(knot in self.senses)
+            for needed, got in gots:
+                self.must(needed in self.rows and repr(got) == repr(self.rows[needed][1]))
+            text, names = self.senses[knot]
+            try:
+                walk = OtherWalk(knot, Term(text), names, [got for _, got in gots])
+            except (ArithmeticError, AttributeError, LookupError, TypeError, ValueError):
+                # Some got is no head at all, so no walk ended with it.
+                raise NoRows() from None
+            self.must(walk.needs == [needed for needed, _ in gots] and repr(walk.end) == repr(end))
+            self.must(end[0] != "waits")
+            for made, text, names in walk.made:
+                self.senses[made] = (text, names)
+
+    def order(self):
+        """Take away rows whose needed knots are taken away, as long as there is one."""
+        left = dict(self.rows)
+        while left:
+            free = []
+            for knot, (gots, end) in left.items():
+                ahead = gots[:-1] if end[0] == "ring" else gots
+                if not any(needed in left for needed, _ in ahead):
+                    free.append(knot)
+            self.must(free)
+            for knot in free:
+                del left[knot]
+
+    def lead(self, knot):
+        knots = self.shaped(self.rows[knot][1][1], tuple)
+        self.must(all(self.is_text(other) for other in knots))
+        many = 0
+        while knot not in knots:
+            many += 1
+            self.must(many <= len(self.rows))
+            self.must(self.rows[knot][1] == self.rows[self.rows[knot][0][-1][0]][1])
+            knot = self.rows[knot][0][-1][0]
+        self.must(len(set(knots)) == len(knots) and knots[0] == sorted(knots)[0])
+        start = knots.index(knot)
+        for behind in knots[start + 1:] + knots[:start + 1]:
+            self.must(self.rows[knot][1] == ("ring", knots))
+            knot = self.rows[knot][0][-1][0]
+            self.must(knot == behind)
+
+    def kind(self):
+        try:
+            self.what = self.word("?")
+        except Ended as ended:
+            kind, self.what = ended.args
+            return kind
+        return "word"
+
+    def word(self, knot):
+        self.must(self.left > 0 and knot in self.rows)
+        self.left -= 1
+        end = self.rows[knot][1]
+        if end[0] == "number":
+            return str(end[1])
+        if end[0] == "pair":
+            left = self.word(end[1])
+            return f"[{left} {self.word(end[2])}]"
+        raise Ended(*(("fault", ("told", knot)) if end[0] == "def" else (end[0], end[1:] if end[0] == "fault" else end[1])))
+
+
 def chance_term(chance, deep):
     """A term's text, anything at all with x, y and parts in it."""
     form = chance.choice(

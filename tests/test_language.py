@@ -15,7 +15,7 @@ BUILTINS = (
     "RuntimeError NotImplementedError"
 ).split()
 
-# The interface as far as it has landed: where each name is defined, with its arguments.
+# The interface: where each name is defined, with its arguments.
 INTERFACE = {
     "errors": {
         "NoTerm": None, "TooMuch": None, "NoName": None, "Loose": None, "Written": None, "NoPart": None, "Full": None,
@@ -47,6 +47,10 @@ INTERFACE = {
         },
     },
     "lacks": {"lack": ["house", "term", "*", "most=MOST"], "wanted": ["house", "terms", "*", "most=MOST"]},
+    "papers": {"paper_of": ["parts", "term", "*", "most=MOST"]},
+    "looker": {"holds": ["parts", "term", "thing"]},
+    "parcels": {"parcel_of": ["house"], "house_of": ["thing"]},
+    "desk": {"Desk": {"__init__": ["self"], "say": ["self", "row"]}},
 }
 
 

@@ -1,5 +1,6 @@
 """Readings: a term told by its parts, by need, nothing of what is kept done again (promises 10 to 12, 16, 17)."""
 
+from unwritparts.bottoms import Bottom
 from unwritparts.kept import ASKED, Kept
 from unwritparts.tellings import Telling
 
@@ -45,6 +46,8 @@ class Reading:
         self._most = most
         self._kept = kept
         self._steps = 0
+        # The walks of the knots that were needed, in the order in which they first were.
+        self._walks = []
         self._known = []
         self._ends = {}
         self._chain = []
@@ -57,27 +60,19 @@ class Reading:
             return Telling(OPEN, None, self._most)
         return Telling(kind, what, self._steps, known=self._known)
 
+    def rows(self):
+        """What was read: tuples (knot, gots, end), one for each knot needed, as papers have them."""
+        return [(walk.knot, tuple(zip(walk.needs, walk.gots)), walk.end) for walk in self._walks]
+
     def _to_the_bottom(self):
         """The kind and the what of the telling."""
-        words = []
-        # What is still to be put down, the next one last: knots to be read, and signs as they are.
-        ahead = [(True, ASKED)]
-        while ahead:
-            is_knot, text = ahead.pop()
-            if not is_knot:
-                words.append(text)
-                continue
-            end = self._at_the_bottom(text)
+        bottom = Bottom()
+        while bottom.told is None:
+            end = self._at_the_bottom(bottom.knot)
             if end is None:
                 return (OPEN, None)
-            if end[0] == "number":
-                words.append(str(end[1]))
-            elif end[0] == "pair":
-                words.append("[")
-                ahead.extend([(False, "]"), (True, end[2]), (False, " "), (True, end[1])])
-            else:
-                return no_word(text, end)
-        return ("word", "".join(words))
+            bottom.take(end)
+        return bottom.told
 
     def _at_the_bottom(self, knot):
         """What a knot that is read to the bottom comes to, one step for that; None where it is open."""
@@ -107,8 +102,10 @@ class Reading:
             if knot not in self._parts:
                 return ("waits", knot)
             self._known.append(knot)
+        walking = self._walk_of(knot)
         self._places[knot] = len(self._chain)
-        self._chain.append(Going(self._walk_of(knot)))
+        self._walks.append(walking)
+        self._chain.append(Going(walking))
         return None
 
     def _ring(self, place):
@@ -164,15 +161,6 @@ class Reading:
         del self._places[walking.knot]
         self._ends[walking.knot] = walking.end
         return walking.end
-
-
-def no_word(knot, end):
-    """The kind and the what where a knot that is read to the bottom came to this, no number and no pair."""
-    if end[0] == "def":
-        return ("fault", ("told", knot))
-    if end[0] == "fault":
-        return ("fault", (end[1], end[2]))
-    return (end[0], end[1])
 
 
 def read_anew(parts, term, most):

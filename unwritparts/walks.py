@@ -210,14 +210,20 @@ def walk_on(walking):
         walking.step()
 
 
-def walked(knot, term, names, gots):
-    """The Walk of a knot with this sense, told in gots what the knots that it needs come to."""
-    walking = Walking(knot, term.tree(), names, {})
+def walking_by(knot, tree, names, gots, bodies):
+    """The walk of a knot with this sense, told in gots what the knots that it needs come to, as far as it goes."""
+    walking = Walking(knot, tree, names, bodies)
     walk_on(walking)
     for got in gots:
         if walking.end is not None:
             break
         walking.take(got)
         walk_on(walking)
+    return walking
+
+
+def walked(knot, term, names, gots):
+    """The Walk of a knot with this sense, told in gots what the knots that it needs come to."""
+    walking = walking_by(knot, term.tree(), names, gots, {})
     made = [(name, tree.text, stand) for name, tree, stand in walking.made]
     return Walk(walking.needs, walking.steps, made, walking.end)
