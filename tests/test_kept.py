@@ -467,6 +467,25 @@ class OpenTest(CountedTest):
         self.tell("Q", "ring P Q 9 by P Q", 3)
         self.tell("P", "ring P Q 9 by P Q", 0)
 
+    def test_long_readings(self):
+        self.house(G="(def n (def x (if n (call (call G (less n 1)) (sum x K)) x)))", K="2")
+        text = "(call (call G 400) 5)"
+        # One bottom; the others are steps of walks.
+        self.tell(text, "open 2500", 2499, most=2500)
+        self.tell(text, "open 4811", 2311, most=4811)
+        self.tell(text, "open 4000", 0, most=4000)
+        self.tell(text, "word 805 4812 by G K", 1, most=4812)
+        self.tell(text, "word 805 4812 by G K", 0, most=4812)
+        self.tell(text, "open 4811", 0, most=4811)
+        self.write("K", "3")
+        # K 1; each made knot (sum x K) has K, one step, behind x, which comes otherwise in all but the first of 400.
+        self.tell(text, "word 1205 4812 by G K", 400, most=5000)
+        self.write("G", "(def n (def x (if n (call (call G (less n 1)) (sum x K)) (less x 0))))")
+        # G 1; ? goes on behind its first three, but its made knots, 2 + 400 * 3 + 400 * 3 steps, and K's one serve.
+        self.tell(text, "open 4813", 2406, most=4813)
+        self.tell(text, "word 1205 4814 by G K", 1, most=4814)
+        self.tell("(sum 1 G)", "fault number ? 5 by G", 3)
+
     def test_without_end(self):
         self.house(W="(call (def f (call f f)) (def f (call f f)))")
         for most, steps in ((100, 99), (50, 0), (200, 100), (5000, 4800), (5000, 0), (4999, 0)):

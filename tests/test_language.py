@@ -114,6 +114,31 @@ class LanguageTest(unittest.TestCase):
                     self.assertNotIsInstance(node.value, (float, complex), path)
                     self.assertNotIn("%", str(node.value), path)
 
+    def test_expressions(self):
+        for path, tree in trees():
+            for node in ast.walk(tree):
+                self.assertNotIsInstance(node, (ast.GeneratorExp, ast.Set, ast.SetComp, ast.Yield, ast.Nonlocal), path)
+                if isinstance(node, ast.Compare):
+                    for deed, right in zip(node.ops, node.comparators):
+                        if isinstance(deed, (ast.Is, ast.IsNot)):
+                            self.assertIn(getattr(right, "value", 0), (None, True, False), path)
+                if isinstance(node, ast.ExceptHandler):
+                    names = node.type.elts if isinstance(node.type, ast.Tuple) else [node.type]
+                    for name in names:
+                        self.assertIn(name.id, INTERFACE["errors"], path)
+                if isinstance(node, ast.Raise):
+                    self.assertIsInstance(node.exc, ast.Call, path)
+
+    def test_names_of_methods_are_no_attributes(self):
+        methods, attributes = [], []
+        for path, tree in trees():
+            for node in ast.walk(tree):
+                if isinstance(node, ast.ClassDef):
+                    methods += [inner.name for inner in node.body if isinstance(inner, ast.FunctionDef)]
+                if isinstance(node, ast.Attribute) and isinstance(node.ctx, ast.Store):
+                    attributes.append(node.attr)
+        self.assertEqual(sorted(set(methods) & set(attributes)), [])
+
     def test_the_interface_stands_where_it_is_listed(self):
         for file, names in INTERFACE.items():
             body = {node.name: node for node in ast.parse((PACKAGE / (file + ".py")).read_text()).body

@@ -1,6 +1,7 @@
 """Promises 2, 3 and 10 to 12: plain reading."""
 
 import random
+import sys
 import unittest
 
 from helper import OtherReading, chance_closed, chance_parts, terms_of
@@ -239,6 +240,55 @@ class DeepTest(unittest.TestCase):
         for parts in ({"COUNT": COUNT}, {"COUNT": "(def n (pair (call COUNT n) 1))"},
                       {"COUNT": "(def n (let k (call COUNT n) (sum k 1)))"}):
             self.assertEqual(str(plain(terms_of(parts), Term("(call COUNT 5000)"), most=5000)), "open 5000")
+
+
+class LongTest(unittest.TestCase):
+    """Readings of nearly 5,000 steps, by just these and by one fewer."""
+
+    F = "(def x (if x (sum 1 (call F (less x 1))) 0))"
+    G = "(def n (def x (if n (call (call G (less n 1)) (sum x 2)) x)))"
+
+    def check(self, parts, text, row, steps):
+        parts, term = terms_of(parts), Term(text)
+        for most, told in ((steps, row), (steps - 1, f"open {steps - 1}"), (steps + 1, row)):
+            self.assertEqual(str(plain(parts, term, most=most)), told)
+
+    def test_a_call_within_a_call(self):
+        for many in (0, 1, 2, 10, 100, 333, 400, 500, 554):
+            self.check({"F": self.F}, f"(call F {many})", f"word {many} {9 * many + 8} by F", 9 * many + 8)
+
+    def test_a_call_of_what_was_called(self):
+        for many in (0, 1, 2, 10, 100, 333, 399, 400):
+            steps = 12 * many + 11
+            self.check({"G": self.G}, f"(call (call G {many}) 5)", f"word {5 + 2 * many} {steps} by G", steps)
+        self.check({"G": self.G}, "(call (call G 400) 5)", "word 805 4811 by G", 4811)
+
+    def test_each_most_on_the_way(self):
+        for parts, text, steps in (({"F": self.F}, "(call F 5)", 53), ({"G": self.G}, "(call (call G 5) 5)", 71)):
+            for most in range(1, steps + 2):
+                told = plain(terms_of(parts), Term(text), most=most)
+                self.assertEqual(str(told), OtherReading(parts, text, most).row)
+                self.assertEqual(told.kind, "word" if most >= steps else "open")
+
+    def test_sixty_parts_in_a_row(self):
+        names = named(60)
+        row = {name: f"(sum 1 {behind})" for name, behind in zip(names, names[1:])}
+        self.check({**row, names[-1]: "7"}, names[0], f"word 66 180 by {' '.join(names)}", 180)
+        self.check({**row, names[-1]: f"(sum 1 {names[0]})"}, names[0],
+                   f"ring {' '.join(names)} 182 by {' '.join(names)}", 182)
+
+    def test_few_calls_for_a_step(self):
+        # Time is no measure for a test; how many functions are called is one, and it hangs on nothing else.
+        for parts, text in (({"F": self.F}, "(call F 500)"), ({"G": self.G}, "(call (call G 400) 5)")):
+            for most in (4508, 4811):
+                calls = []
+                parts_told, term = terms_of(parts), Term(text)
+                sys.setprofile(lambda frame, event, thing: calls.append(1) if event == "call" else None)
+                try:
+                    told = plain(parts_told, term, most=most)
+                finally:
+                    sys.setprofile(None)
+                self.assertLess(len(calls), 4 * told.steps)
 
 
 class ByChanceTest(unittest.TestCase):

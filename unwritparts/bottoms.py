@@ -1,6 +1,6 @@
 """Bottoms: a knot read to the bottom, by what the knots come to (promises 11 and 13)."""
 
-from unwritparts.kept import ASKED
+from unwritparts.runs import ASKED
 
 
 class Bottom:

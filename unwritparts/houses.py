@@ -1,9 +1,9 @@
 """Houses: parts that are written, struck and asked, with their past and what is kept (promises 14 to 17)."""
 
 from unwritparts.errors import Bare, Full, NoName, NoPart, Written
+from unwritparts.keeping import Keeping
 from unwritparts.kept import Kept
 from unwritparts.plain import MOST
-from unwritparts.readings import Reading
 from unwritparts.terms import is_part_name, refuse_loose
 
 MOST_PARTS = 60
@@ -65,7 +65,10 @@ class House:
     def tell(self, term, *, most=MOST):
         """The telling of a term by the parts as they are now; nothing of what is kept is done again."""
         refuse_loose(term)
-        return Reading(self._parts, term, most, self._kept).telling()
+        reading = Keeping(self._parts, term, most, self._kept)
+        told = reading.telling()
+        self._kept.steps += reading.done()
+        return told
 
     def done(self):
         """How many steps of walks were done in all."""

@@ -4,10 +4,9 @@ Each row is looked at by itself and walked by what it says itself, so nothing of
 """
 
 from unwritparts.bottoms import Bottom
-from unwritparts.kept import ASKED
-from unwritparts.readings import POINT
+from unwritparts.runs import ASKED, POINT
 from unwritparts.shapes import is_row, is_same, is_tuple
-from unwritparts.walks import walking_by
+from unwritparts.walks import Told
 
 MOST_READ = 5000
 
@@ -23,8 +22,8 @@ def holds(parts, term, thing):
     ends = {knot: end for knot, _, end in rows}
     if len(ends) != len(rows):
         return False
-    senses = {name: (stands.tree(), ()) for name, stands in parts}
-    senses[ASKED] = (term.tree(), ())
+    senses = {name: (stands.tree(), {}) for name, stands in parts}
+    senses[ASKED] = (term.tree(), {})
     return (
         all([are_told(gots, ends) for _, gots, _ in rows])
         and are_walked(rows, senses, bodies)
@@ -45,12 +44,9 @@ def are_walked(rows, senses, bodies):
     for knot, gots, end in sorted(rows, key=points_of):
         if knot not in senses:
             return False
-        tree, names = senses[knot]
-        walking = walking_by(knot, tree, names, [got for _, got in gots], bodies)
-        if walking.end != end or walking.needs != [needed for needed, _ in gots]:
+        told = Told(knot, senses, [got for _, got in gots], bodies)
+        if told.walk.end != end or told.needs != [needed for needed, _ in gots]:
             return False
-        for made, inner, stand in walking.made:
-            senses[made] = (inner, stand)
     return True
 
 

@@ -38,6 +38,8 @@ class Tree:
         self.small = small
         self.within = tuple(within)
         self.free = free_in(self)
+        # What walks do for this term, made of the above when it is first walked.
+        self.code = None
 
 
 def free_in(tree):
