@@ -200,6 +200,19 @@ class KeptTest(CountedTest):
         # C 1; let, let, times, y, 2; P.4 is x for P.3 as before, so it is gone over; P.3 is b now: 1; P.2 1.
         self.tell("P", "word 8 15 by C P", 8)
 
+    def test_a_made_knot_of_the_same_text_whose_name_stands_for_another_parts_knot(self):
+        body = "(def x (first (pair (times x k) 0)))"
+        self.house(P="(call (if C F G) 7)", F=f"(let k 5 {body})", G=f"(let k 6 {body})", C="1")
+        # ? 1; call, if, C, F, first, pair; C 1; F 2; P.2: times, x, k; P.1 1; F.1 1.
+        self.tell("P", "word 35 16 by C F P", 15)
+        self.write("C", "0")
+        # C 1; G, first, pair; G 2; P.2 is of G.1 now: 3; G.1 1; P.1 serves.
+        self.tell("P", "word 42 16 by C G P", 10)
+        self.tell("P", "word 42 16 by C G P", 0)
+        self.write("C", "1")
+        # C 1; F, first, pair; P.2 is of F.1 again, but that of G.1 was its last walk: 3.
+        self.tell("P", "word 35 16 by C F P", 7)
+
     def test_heads_are_the_same_by_names_of_knots(self):
         self.house(P="(first Q)", Q="(pair (sum R 1) 2)", R="3")
         # ? 1; first, Q; Q 1; Q.1: 3; R 1.
@@ -322,6 +335,23 @@ class KeptTest(CountedTest):
         self.assertEqual((other.done(), twin.done()), (11 + 6, 11))
         twin.tell(Term("R"))
         self.assertEqual((other.done(), twin.done()), (17, 17))
+
+    def test_twins_make_knots_by_themselves(self):
+        self.house(P="(if C (first (pair (sum 1 1) 0)) (first (pair (sum 2 2) 0)))", C="1")
+        # ? 1; if, C, first, pair; C 1; P.1: 3.
+        self.tell("P", "word 2 10 by C P", 9)
+        twin = self.stands.twin()
+        twin.write("C", Term("0"))
+        # C 1; first, pair; P.1 has another sense there: 3.
+        self.assertEqual(str(twin.tell(Term("P"))), "word 4 10 by C P")
+        self.assertEqual(twin.done(), 15)
+        self.tell("P", "word 2 10 by C P", 0)
+        self.write("C", "0")
+        self.tell("P", "word 4 10 by C P", 6)
+        self.assertEqual(str(twin.tell(Term("P"))), "word 4 10 by C P")
+        twin.back()
+        self.assertEqual(str(twin.tell(Term("P"))), "word 2 10 by C P")
+        self.tell("P", "word 4 10 by C P", 0)
 
     def test_a_twin_goes_on_where_an_open_telling_left(self):
         self.house(P="(sum 1 (sum 2 (sum 3 (sum Q (times 2 2)))))", Q="4")

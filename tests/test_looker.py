@@ -236,6 +236,29 @@ class CircleTest(unittest.TestCase):
                 ("Q", (), ("number", 4))]
         self.look({"P": "P", "Q": "4"}, "(second P)", ("word", "4", rows), False)
 
+    def test_by_heads_that_are_none(self):
+        deep, many = "(first " * 31 + "1" + ")" * 31, "(sum " * 4 + "1" + (" " + "(sum 1 " * 29 + "1" + ")" * 29 + ")") * 4
+        for text in (deep, many):
+            with self.assertRaises(OverflowError):
+                Term(text)
+        for small, text, names in (
+            ("x", "(def z (sum z y))", ()), ("x", "(pair y 1)", ()), ("x", "y", ()), ("x", "x", (("x", "P"),)),
+            ("x", "(def z (sum z y))", (("z", "P"),)), ("x", "(sum y z)", (("z", "P"), ("y", "P"))),
+            ("x", "(def z (sum z y))", (("y", "P"), ("z", "P"))), ("x", "y", (("y",),)), ("x", "y", (("y", "P", "P"),)),
+            ("x", "y", ("yP",)), ("x", "y", (3,)), ("x", "y", (("y", 3),)), ("x", "y", (("y", ["P"]),)),
+            ("x", "y", (["y", "P"],)), ("x", "y", [("y", "P")]), ("x", "y", ((3, "P"),)), ("x", "y", "yP"), ("x", "y", None),
+            ("x", deep, ()), ("x", many, ()), ("x", "(sum 1", ()), ("x", "", ()), ("x", "x ", ()), ("x", None, ()),
+            ("x", ["x"], ()), ("X", "1", ()), ("", "1", ()), ("abcde", "1", ()), (3, "1", ()), (["x"], "1", ()),
+            ("x1", "1", ()), ("x", True, ()),
+        ):
+            head = ("def", small, text, names)
+            for last in (("number", 1), head, ("pair", "?.1", "?.2"), ("fault", "number", "?")):
+                for gots in (((("P", head)),), (("P", head), ("y", ("number", 1))), (("P", head), ("?.1", ("number", 1)))):
+                    rows = [("?", gots, last), ("P", (("P", head),), head), ("?.1", (), ("number", 1))]
+                    for thing in (("word", "1", rows), ("word", "1", rows[:2]), ("fault", ("number", "?"), rows[:2])):
+                        self.assertIs(holds(terms_of({"P": "P"}), Term("(call P 1)"), thing), False)
+                        self.assertIs(holds(terms_of({"P": "P"}), Term("(sum 1 (call P 1))"), thing), False)
+
     def test_by_faults(self):
         for word in ("number", "pair", "def", "great", "told"):
             for knot in ("P", "Q", "?", "Z"):
